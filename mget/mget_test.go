@@ -7,6 +7,7 @@ import (
 	"testing"
 
 	"hackney/api"
+	"hackney/carry"
 	"hackney/conf"
 	"hackney/give"
 	"hackney/hist"
@@ -797,7 +798,7 @@ func (x *run) where(id uint64) int {
 		}
 	}
 	for thread := range x.gets {
-		if x.called[thread] && x.gets[thread].Carries() == id || x.gone[thread] && carried(x.gives[thread]) == id {
+		if x.called[thread] && x.gets[thread].Carries() == id || x.gone[thread] && carry.Of(x.gives[thread]) == id {
 			n++
 		}
 	}
